@@ -390,10 +390,11 @@ func slowLay(l []api.Leaf, at api.Berth, r api.Row) told {
 	if !slowCheck(l) {
 		return told{e: api.ErrArg}
 	}
-	if _, ok := slowGet(l, at); !ok {
+	there, ok := slowGet(l, at)
+	if !ok {
 		return told{l: clone(l), e: api.ErrNone}
 	}
-	if _, where, ok := slowFind(l, r.Key); !slowRow(r) || ok && where != at {
+	if !slowRow(r) || slowKey(r.Key) != slowKey(there.Key) {
 		return told{l: clone(l), e: api.ErrArg}
 	}
 	return told{l: replaced(l, at, text(r))}
@@ -585,15 +586,15 @@ func goodRows() []api.Row {
 	}
 }
 
-// badRows are rows that may not be, each in one part, that are otherwise like one whose key is nowhere.
-func badRows() []api.Row {
+// badRows are rows that may not be, each in one part, and have otherwise a key.
+func badRows(key float64) []api.Row {
 	return []api.Row{
 		{Key: ofBits(minusNo), Writer: 1}, {Key: ofBits(theNaN + 1), Writer: 1}, {Key: ofBits(theNaN | minusNo), Writer: 1},
-		{Key: -50, Dead: true, Cols: []float64{0}, Writer: 1}, {Key: -50, Cols: make([]float64, 5), Writer: 1},
-		{Key: -50, Cols: []float64{1, ofBits(theNaN - 1)}, Writer: 1}, {Key: -50, Cols: []float64{ofBits(theNaN | minusNo)}, Writer: 1},
-		{Key: -50, Writer: -1}, {Key: -50, Writer: most + 1}, {Key: -50, Writer: math.MinInt}, {Key: -50, Writer: math.MaxInt}, {Key: -50, Writer: 1<<32 + 1},
-		{Key: -50, Writer: 1, Roll: api.Roll{Cell: -1}}, {Key: -50, Writer: 1, Roll: api.Roll{Cell: 65536}}, {Key: -50, Writer: 1, Roll: api.Roll{No: 1}},
-		{Key: -50, Writer: 1, Roll: api.Roll{Cell: 1, No: -1}}, {Key: -50, Writer: 1, Roll: api.Roll{Cell: 1, No: most + 1}},
+		{Key: key, Dead: true, Cols: []float64{0}, Writer: 1}, {Key: key, Cols: make([]float64, 5), Writer: 1},
+		{Key: key, Cols: []float64{1, ofBits(theNaN - 1)}, Writer: 1}, {Key: key, Cols: []float64{ofBits(theNaN | minusNo)}, Writer: 1},
+		{Key: key, Writer: -1}, {Key: key, Writer: most + 1}, {Key: key, Writer: math.MinInt}, {Key: key, Writer: math.MaxInt}, {Key: key, Writer: 1<<32 + 1},
+		{Key: key, Writer: 1, Roll: api.Roll{Cell: -1}}, {Key: key, Writer: 1, Roll: api.Roll{Cell: 65536}}, {Key: key, Writer: 1, Roll: api.Roll{No: 1}},
+		{Key: key, Writer: 1, Roll: api.Roll{Cell: 1, No: -1}}, {Key: key, Writer: 1, Roll: api.Roll{Cell: 1, No: most + 1}},
 	}
 }
 
@@ -674,7 +675,7 @@ func badBytes() [][]byte {
 			l = append(l, b)
 		}
 	}
-	for _, r := range badRows() {
+	for _, r := range badRows(-50) {
 		if r.Writer <= most+1 && r.Writer > 0 && r.Roll.Cell >= 0 && r.Roll.Cell <= 65535 && len(r.Cols) < 5 {
 			l = append(l, text(r)) // the others have no bytes of their own
 		}
@@ -1000,7 +1001,7 @@ func TestPutOfRoom(t *testing.T) {
 // Hp2: Put of rows that may not be, of the Writer 0, and of keys that stand, also on full leaves and where the Writer couldn't join; the leaves are told as they were handed in.
 func TestPutRefuses(t *testing.T) {
 	for _, s := range goodLeaves() {
-		for _, r := range badRows() {
+		for _, r := range badRows(-50) {
 			wantPut(t, s.l, r, nil, s.l, api.Berth{}, api.ErrArg)
 		}
 		wantPut(t, s.l, by(of(-50), 0), nil, s.l, api.Berth{}, api.ErrArg)
@@ -1017,7 +1018,7 @@ func TestPutRefuses(t *testing.T) {
 	}
 	busy := []int{11, 12, 13, 14}
 	for _, l := range [][]api.Leaf{{made(busy)}, joined(full(2), 0, busy...), {made(busy, text(of(3))), plain()}} {
-		for _, r := range append(badRows(), by(of(-50), 0), by(of(3), 0)) {
+		for _, r := range append(badRows(-50), by(of(-50), 0), by(of(3), 0)) {
 			wantPut(t, l, r, busy, l, api.Berth{}, api.ErrArg)
 		}
 	}
@@ -1057,8 +1058,9 @@ func TestJoins(t *testing.T) {
 		}
 		for n := range 3 {
 			l := []api.Leaf{run(10, 9), run(20, 9), run(30, 9)}
-			l[n].Itl = c.itl
 			at := berth(n, 4)
+			l = replaced(l, at, text(of(-1)))
+			l[n].Itl = c.itl
 			wantLay(t, l, at, r, replaced(l, at, text(r)), api.OK)
 			gap := holed(l, at)
 			if c.at < 0 {
@@ -1084,25 +1086,28 @@ func berthsOf(l []api.Leaf) []api.Berth {
 	return at
 }
 
-// Hp2, Hp3: Set and Lay of each berth where a row stands, on full leaves too: the row stands there, of its own key or of another one; all else stays.
+// Hp2, Hp3: Set and Lay of each berth where a row stands, on full leaves too: another version of it stands there; all else stays.
 func TestSetAndLay(t *testing.T) {
 	for _, s := range goodLeaves() {
 		for _, at := range berthsOf(s.l) {
 			there, _ := slowGet(s.l, at)
-			own := []api.Row{by(there, 9), by(of(there.Key), 9), by(of(there.Key, 4, 3, 2, 1), 9), {Key: there.Key, Dead: true, Writer: 9}}
-			for _, r := range append(own, by(of(0.25), 9), by(of(0.75, 1, 2, 3, 4), 9), api.Row{Key: 0.25, Dead: true, Writer: 9, Roll: api.Roll{Cell: 65535, No: most}}) {
+			for _, r := range []api.Row{
+				by(there, 9), by(of(there.Key), 9), by(of(there.Key, 4, 3, 2, 1), 9), {Key: there.Key, Dead: true, Writer: 9},
+				{Key: there.Key, Dead: true, Writer: 9, Roll: api.Roll{Cell: 65535, No: most}},
+			} {
 				laid := replaced(s.l, at, text(r))
 				itl, _ := slowJoin(s.l[at.Leaf].Itl, 9, nil)
 				wantLay(t, s.l, at, r, laid, api.OK)
 				wantSet(t, s.l, at, r, nil, joined(laid, at.Leaf, itl...), api.OK)
 			}
-			wantLay(t, s.l, at, by(of(0.25), 0), replaced(s.l, at, text(by(of(0.25), 0))), api.OK)
+			wantLay(t, s.l, at, by(of(there.Key), 0), replaced(s.l, at, text(by(of(there.Key), 0))), api.OK)
 			wantLay(t, s.l, at, by(there, 0), replaced(s.l, at, text(by(there, 0))), api.OK)
 		}
 	}
 	for _, r := range goodRows() {
 		for _, l := range [][]api.Leaf{full(1), full(62)} {
 			at := berth(len(l)-1, 8)
+			l = replaced(l, at, text(api.Row{Key: r.Key, Dead: true}))
 			wantLay(t, l, at, r, replaced(l, at, text(r)), api.OK)
 			wantSet(t, l, at, r, nil, joined(replaced(l, at, text(r)), at.Leaf, r.Writer, 0, 0, 0), api.OK)
 		}
@@ -1132,7 +1137,20 @@ func noBerths(l []api.Leaf) []api.Berth {
 	return at
 }
 
-// Hp2: Set and Lay where no row stands, of rows that may not be, of the Writer 0 (Set alone), and of another one's key; which error is told where two could be, and the leaves as they were handed in.
+// strangers are rows that may be, of keys near a key and far from it that are other ones than it.
+func strangers(key float64) []api.Row {
+	keys := []float64{-50, 0, 2, math.Inf(1), math.Inf(-1), ofBits(theNaN), key + 1, -key, math.Nextafter(key, 1e9), math.Nextafter(key, -1e9)}
+	rows := []api.Row{}
+	for _, k := range keys {
+		if slowKey(k) == slowKey(key) || k != k && math.Float64bits(k) != theNaN || k == 0 && math.Signbit(k) {
+			continue
+		}
+		rows = append(rows, of(k), by(of(k, 1), 9), by(of(k), 0), api.Row{Key: k, Dead: true, Writer: 7, Roll: api.Roll{Cell: 1, No: 2}})
+	}
+	return rows
+}
+
+// Hp2: Set and Lay where no row stands, of rows that may not be, of the Writer 0 (Set alone), and of another one's key, that stands or not; which error is told where two could be, and the leaves as they were handed in.
 func TestSetAndLayRefuse(t *testing.T) {
 	busy := []int{most, 12, 13, 14}
 	for _, s := range goodLeaves() {
@@ -1146,14 +1164,22 @@ func TestSetAndLayRefuse(t *testing.T) {
 		for i, at := range places {
 			l := joined(s.l, at.Leaf, busy...)
 			there, _ := slowGet(s.l, at)
-			for _, r := range badRows() {
+			for _, r := range badRows(there.Key) {
 				wantSet(t, l, at, r, busy, l, api.ErrArg)
 				wantLay(t, l, at, r, l, api.ErrArg)
 			}
-			for _, r := range []api.Row{by(of(-50), 0), by(there, 0), {Key: there.Key, Dead: true}} {
+			for _, r := range []api.Row{by(of(there.Key), 0), by(there, 0), {Key: there.Key, Dead: true}} {
 				wantSet(t, l, at, r, busy, l, api.ErrArg)
 				wantSet(t, s.l, at, r, nil, s.l, api.ErrArg)
 				wantLay(t, l, at, r, replaced(l, at, text(r)), api.OK)
+			}
+			for j, r := range strangers(there.Key) {
+				if len(places) > 3 && (i+j)%3 > 0 {
+					continue
+				}
+				wantSet(t, l, at, r, busy, l, api.ErrArg)
+				wantSet(t, s.l, at, r, nil, s.l, api.ErrArg)
+				wantLay(t, l, at, r, l, api.ErrArg)
 			}
 			for j, other := range places {
 				if i == j || len(places) > 6 && (i+j)%3 > 0 {
@@ -1165,7 +1191,7 @@ func TestSetAndLayRefuse(t *testing.T) {
 					wantLay(t, l, at, r, l, api.ErrArg)
 				}
 			}
-			wantSet(t, l, at, by(of(-50), 9), busy, l, api.ErrItl)
+			wantSet(t, l, at, by(of(there.Key), 9), busy, l, api.ErrItl)
 			wantSet(t, l, at, by(there, 9), busy, l, api.ErrItl)
 			wantSet(t, l, at, by(there, 14), busy, replaced(l, at, text(by(there, 14))), api.OK)
 		}
@@ -1227,6 +1253,10 @@ func TestOthersStay(t *testing.T) {
 			}
 			wantOthers(t, "Put", s.l, got.l, got.at, r.Key)
 			wantFind(t, got.l, r.Key, r, got.at, true)
+			for _, x := range strangers(r.Key) {
+				wantFind(t, set(got.l, got.at, x, nil).l, r.Key, r, got.at, true)
+				wantFind(t, laid(got.l, got.at, x).l, r.Key, r, got.at, true)
+			}
 			turned := by(of(r.Key, 1, 2, 3, 4), 8)
 			after := set(got.l, got.at, turned, nil)
 			wantOthers(t, "Set", got.l, after.l, got.at, r.Key)
@@ -1288,6 +1318,14 @@ func strewnBerth(r *rand.Rand, l []api.Leaf) api.Berth {
 	return berth(r.IntN(len(l)+2)-1, r.IntN(12)-1)
 }
 
+// keyIn is the key of the row in a berth, or another one, if none stands there.
+func keyIn(l []api.Leaf, at api.Berth, other float64) float64 {
+	if there, ok := slowGet(l, at); ok {
+		return there.Key
+	}
+	return other
+}
+
 // Hp1, Hp2, Hp3: strewn calls, one behind the other, are held against the chapter's words.
 func TestStrewnCalls(t *testing.T) {
 	r := rand.New(rand.NewPCG(15, 1))
@@ -1299,9 +1337,13 @@ func TestStrewnCalls(t *testing.T) {
 			if r.IntN(2) == 0 {
 				x.Key = [3]float64{0, 3, 1000}[r.IntN(3)] + float64(r.IntN(30))
 			}
+			call := r.IntN(7)
+			if call > 2 && r.IntN(5) > 0 {
+				x.Key = keyIn(l, at, x.Key)
+			}
 			var name string
 			var got, must told
-			switch r.IntN(7) {
+			switch call {
 			case 0, 1, 2:
 				name, got, must = "Put", put(l, x, live), slowPut(l, x, live)
 				at = got.at
@@ -1381,6 +1423,9 @@ func TestStrewnLeaves(t *testing.T) {
 		for range 4 {
 			x, at, live := strewnRow(r), strewnBerth(r, l), strewnLive(r)
 			want(t, fmt.Sprintf("Put %v, %v", x, live), l, put(l, x, live), slowPut(l, x, live))
+			if r.IntN(3) > 0 {
+				x.Key = keyIn(l, at, x.Key)
+			}
 			want(t, fmt.Sprintf("Set %v, %v, %v", at, x, live), l, set(l, at, x, live), slowSet(l, at, x, live))
 			want(t, fmt.Sprintf("Lay %v, %v", at, x), l, laid(l, at, x), slowLay(l, at, x))
 			want(t, fmt.Sprintf("Drop %v", at), l, drop(l, at), slowDrop(l, at))
